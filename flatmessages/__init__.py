@@ -1,0 +1,1 @@
+"""Flat messages, read where they lie: see flatmessages.messages."""
