@@ -9,9 +9,8 @@ WHOLE_NUMBERS = {0: 0, 1: 0, 2: 1, 3: 1, 4: 1, 5: 1, 6: 2, 7: 2, 8: 1}
 WITH_ROW = (0,)
 
 
+# The object that calls are on: what one call leaves for the next is kept here alone.
 class Holder:
-    """The object that calls are on."""
-
     def __init__(self):
         self.data = []
 
