@@ -23,10 +23,10 @@ def check_answer(data):
 
 def depth_answer(data, at):
     """What depth answers."""
-    found = whole_at(data, at)
-    if found is None:
+    tree = whole_at(data, at)
+    if tree is None:
         return [-1]
-    return list(found)
+    return [tree.depth, tree.size]
 
 
 def number_answer(data, at):

@@ -6,6 +6,7 @@ MARK = [0x46, 0x4D, 0x30, 0x31]
 TOP = 4294967295
 
 LOAD, CHECK, KIND, NUMBER, BYTES, COUNT, ITEM, FIELD, DEPTH = range(9)
+BEGIN, PUTNUMBER, PUTBYTES, LIST, RECORD, COPY, SIZES, FINISH, ADOPT = range(9, 18)
 
 
 def word(n):
@@ -41,6 +42,18 @@ def load(data):
     return [LOAD, len(data)] + list(data)
 
 
+def putnumber(n):
+    return (PUTNUMBER, n // 2 ** 32, n % 2 ** 32)
+
+
+def putbytes(row):
+    return (PUTBYTES, len(row), *row)
+
+
+def record(*keys):
+    return (RECORD, len(keys), *keys)
+
+
 def apart(given):
     """The list that answers gives back, taken apart into one list for each call."""
     rows = []
@@ -52,12 +65,19 @@ def apart(given):
     return rows
 
 
+def build(*calls):
+    """One answer for each call on a new object."""
+    flat = [n for call in calls for n in call]
+    assert len(calls) <= 200 and len(flat) <= 30000
+    rows = apart(answers(flat))
+    assert len(rows) == len(calls), rows
+    return rows
+
+
 def ask(data, *calls):
     """One answer for each call, behind a load of data."""
-    assert len(calls) < 200
-    flat = load(data) + [n for call in calls for n in call]
-    rows = apart(answers(flat))
-    assert rows[0] == [0] and len(rows) == 1 + len(calls), rows
+    rows = build(load(data), *calls)
+    assert rows[0] == [0], rows
     return rows[1:]
 
 
@@ -73,3 +93,61 @@ def every_call_at(at):
 
 def stands(data, at):
     return one(data, KIND, at) != [-1]
+
+
+# Trees are written as whole numbers, bytes, lists of trees, and dicts of trees by their keys.
+
+def calls_for(tree):
+    """The calls that put a tree."""
+    if isinstance(tree, int):
+        return [putnumber(tree)]
+    if isinstance(tree, bytes):
+        return [putbytes(tree)]
+    inner = list(tree.values()) if isinstance(tree, dict) else tree
+    last = record(*tree) if isinstance(tree, dict) else (LIST, len(tree))
+    return [call for one in inner for call in calls_for(one)] + [last]
+
+
+def laid_out(tree, at=8):
+    """The bytes of a tree that stands at a place."""
+    if isinstance(tree, int):
+        return number_value(tree)
+    if isinstance(tree, bytes):
+        return bytes_value(tree)
+    inner = list(tree.values()) if isinstance(tree, dict) else tree
+    place = at + 4 + (8 if isinstance(tree, dict) else 4) * len(tree)
+    places, behind = [], []
+    for one in inner:
+        places.append(place + len(behind))
+        behind += laid_out(one, places[-1])
+    front = record_value(*zip(tree, places)) if isinstance(tree, dict) else list_value(*places)
+    return front + behind
+
+
+def message_for(tree):
+    return message(laid_out(tree))
+
+
+def finished(tree):
+    """What finish answers of a builder that has this tree alone."""
+    data = message_for(tree)
+    return [len(data)] + data
+
+
+def size_for(tree):
+    """A tree's size, by the words."""
+    if isinstance(tree, int):
+        return 12
+    if isinstance(tree, bytes):
+        return 4 + (len(tree) + 3) // 4 * 4
+    if isinstance(tree, dict):
+        return 4 + 8 * len(tree) + sum(size_for(one) for one in tree.values())
+    return 4 + 4 * len(tree) + sum(size_for(one) for one in tree)
+
+
+def depth_for(tree):
+    """A tree's depth, by the words."""
+    if isinstance(tree, (int, bytes)):
+        return 1
+    inner = tree.values() if isinstance(tree, dict) else tree
+    return 1 + max([depth_for(one) for one in inner], default=0)

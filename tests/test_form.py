@@ -16,6 +16,11 @@ METHODS = set("""append clear copy count endswith extend find get index insert i
 NOT_WRITTEN = re.compile(r"""\b(type|typing|typing_extensions|enum|Enum|IntEnum|StrEnum|Flag|IntFlag|Generic|
     Protocol|ABC|ABCMeta|namedtuple|NamedTuple|TypedDict|TYPE_CHECKING|abstractmethod)\b
     |dataclass|overload|contextmanager""", re.VERBOSE)
+NOT_NAMED = set("""register mro elements open input version_info with_traceback add_note format format_map
+    attrgetter breakpoint builtins compile copyright credits delattr dir eval exec exit gc getattr globals hasattr
+    help id importlib license locals methodcaller os quit setattr super type vars sys""".split())
+# What a value of an object may be called, though Python's own values have it.
+SHARED_NAMES = set("count index title find get join lower upper split strip copy add".split())
 NOT_USED = (ast.With, ast.Match, ast.Delete, ast.Global, ast.Nonlocal, ast.Assert, ast.Yield, ast.YieldFrom,
             ast.AsyncFunctionDef, ast.Await, ast.Import, ast.AnnAssign, ast.SetComp, ast.DictComp, ast.Set,
             ast.GeneratorExp, ast.NamedExpr, ast.Starred, ast.Div, ast.MatMult, ast.Lambda)
@@ -60,6 +65,60 @@ class Form(unittest.TestCase):
                 self.assertEqual(node.level, 0)
                 self.assertTrue(node.module.startswith("flatmessages."))
 
+    def test_no_two_files_draw_from_one_another(self):
+        drawn = {path.stem: {node.module.split(".")[1] for node in ast.parse(path.read_text()).body
+                             if isinstance(node, ast.ImportFrom)} for path in FILES}
+        while drawn:
+            free = [name for name in drawn if not drawn[name] & set(drawn)]
+            self.assertTrue(free, drawn)
+            for name in free:
+                del drawn[name]
+
+    def test_names_come_from_where_they_are_defined(self):
+        for text, tree in self.each():
+            for node in tree.body:
+                if isinstance(node, ast.ImportFrom):
+                    source = ast.parse((PACKAGE / (node.module.split(".")[1] + ".py")).read_text())
+                    for name in node.names:
+                        self.assertIn(name.name, self.bound_at_top(source))
+                        self.assertIsNone(name.asname)
+
+    def bound_at_top(self, tree):
+        names = [node.name for node in tree.body if isinstance(node, (ast.FunctionDef, ast.ClassDef))]
+        return names + [node.targets[0].id for node in tree.body if isinstance(node, ast.Assign)]
+
+    def test_the_top_of_a_file(self):
+        for text, tree in self.each():
+            bound = self.bound_at_top(tree)
+            bound += [name.name for node in tree.body if isinstance(node, ast.ImportFrom) for name in node.names]
+            self.assertEqual(len(bound), len(set(bound)))
+            self.assertIsInstance(tree.body[0], ast.Expr)
+            for node in tree.body[1:]:
+                self.assertIsInstance(node, (ast.ImportFrom, ast.Assign, ast.FunctionDef, ast.ClassDef))
+            top = set(bound)
+            for node in ast.walk(tree):
+                if isinstance(node, ast.FunctionDef):
+                    inside = {one.arg for one in ast.walk(node) if isinstance(one, ast.arg)}
+                    inside |= {one.id for one in ast.walk(node)
+                               if isinstance(one, ast.Name) and isinstance(one.ctx, ast.Store)}
+                    self.assertFalse(inside & top, node.name)
+
+    def test_no_name_is_drawn_for_nothing(self):
+        for text, tree in self.each():
+            used = {node.id for node in ast.walk(tree) if isinstance(node, ast.Name)}
+            for node in tree.body:
+                if isinstance(node, ast.ImportFrom):
+                    for name in node.names:
+                        self.assertIn(name.name, used)
+
+    def test_values_of_objects(self):
+        taken = {name for kind in (str, int, list, dict, set, bytes, tuple) for name in dir(kind)}
+        for text, tree in self.each():
+            for node in ast.walk(tree):
+                if isinstance(node, ast.Attribute) and isinstance(node.ctx, ast.Store):
+                    self.assertNotIn(node.attr, taken - SHARED_NAMES)
+                    self.assertNotIn(node.attr, METHODS - SHARED_NAMES)
+
     def test_statements_and_expressions(self):
         for text, tree in self.each():
             for node in ast.walk(tree):
@@ -89,6 +148,7 @@ class Form(unittest.TestCase):
                     bound.add(node.id)
             own = bound - {"__init__"}
             for name in own:
+                self.assertNotIn(name, NOT_NAMED)
                 self.assertRegex(name, r"^[A-Za-z][A-Za-z0-9_]*$")
                 self.assertNotIn(name, BUILT_IN)
                 self.assertNotIn(name, dir(__builtins__) if not isinstance(__builtins__, dict) else __builtins__)
